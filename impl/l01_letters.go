@@ -71,7 +71,7 @@ func takeApart(list []int) (letterBits, []int) {
 	return letters, risen(others)
 }
 
-// risen sorts in place: it is given lists that this file made, never an argument of an exported function.
+// risen sorts in place: it is given lists that this package made, never an argument of an exported function.
 func risen(list []int) []int {
 	slices.Sort(list)
 	return slices.Compact(list)
