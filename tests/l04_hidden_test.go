@@ -596,35 +596,42 @@ func TestHiddenOfAllSmallAutomata(t *testing.T) {
 	}
 }
 
-// Promise 4, over all ways in which hidden steps may go between four states, each of which takes and says other actions.
-func TestHiddenOfAllGraphsOfFourStates(t *testing.T) {
-	for mask := range 1 << 16 {
-		a := impl.Ia{States: 4, Ins: []int{0, 1, 2, 3}, Outs: []int{4, 5, 6, 7}, Hids: []int{8}}
-		for s := range 4 {
-			for act := range 4 {
-				if act != s {
-					a.Steps = append(a.Steps, impl.Step{From: s, Act: act, To: act})
-				}
+// webOf has hidden steps between four states, one for each bit of the mask; each state takes all but one action and says one of its own.
+func webOf(mask int) impl.Ia {
+	a := impl.Ia{States: 4, Ins: []int{0, 1, 2, 3}, Outs: []int{4, 5, 6, 7}, Hids: []int{8}}
+	for s := range 4 {
+		for act := range 4 {
+			if act != s {
+				a.Steps = append(a.Steps, impl.Step{From: s, Act: act, To: act})
 			}
-			a.Steps = append(a.Steps, impl.Step{From: s, Act: 4 + s, To: (s + 1) % 4})
-			for to := range 4 {
-				if mask>>(4*s+to)&1 == 1 {
+		}
+		a.Steps = append(a.Steps, impl.Step{From: s, Act: 4 + s, To: (s + 1) % 4})
+		for to := range 4 {
+			if to != s {
+				if mask&1 == 1 {
 					a.Steps = append(a.Steps, impl.Step{From: s, Act: 8, To: to})
 				}
+				mask >>= 1
 			}
 		}
-		s := mask % 4
-		closure := wantedClosures(a)[s]
-		checkSure(t, a, s)
-		if got := impl.Closure(a, s); !slices.Equal(got, closure) {
-			t.Fatalf("Closure(%+v, %d) = %v, want %v", a, s, got, closure)
+	}
+	return a
+}
+
+// Promise 4, over all ways in which hidden steps may go between four states, from each of them.
+func TestHiddenOfAllWebsOfFourStates(t *testing.T) {
+	d := draws(44)
+	for mask := range 1 << 12 {
+		a := webOf(mask)
+		checkHidden(t, a)
+		for s, closure := range wantedClosures(a) {
+			// A state of Closure is the one that does not take its own number, and says its own number and 4.
+			sure, said := impl.SureTaken(a, s), impl.MaySay(a, s)
+			if !slices.Equal(sure, impl.SetLess(a.Ins, closure)) || len(said) != len(closure) {
+				t.Fatalf("of state %d of %+v: SureTaken %v, MaySay %v", s, a, sure, said)
+			}
 		}
-		if got := impl.SureTaken(a, s); len(got) != 4-len(closure) || len(impl.SetMeet(got, closure)) != 0 {
-			t.Fatalf("SureTaken(%+v, %d) = %v", a, s, got)
-		}
-		if got := impl.MaySay(a, s); len(got) != len(closure) {
-			t.Fatalf("MaySay(%+v, %d) = %v", a, s, got)
-		}
+		wantedHidden(a).checkRuns(t, drawnList(&d, 2, 4), drawnList(&d, 3, 9))
 	}
 }
 
