@@ -611,6 +611,15 @@ func TestAllGraphsOfFourStates(t *testing.T) {
 	}
 }
 
+// righted has its steps in order, each once, and of one From and one Act of Ins but the first.
+func righted(a impl.Ia) impl.Ia {
+	slices.SortFunc(a.Steps, func(x, y impl.Step) int { return slices.Compare(numbersOf(x), numbersOf(y)) })
+	a.Steps = slices.CompactFunc(a.Steps, func(x, y impl.Step) bool {
+		return x == y || x.From == y.From && x.Act == y.Act && occurs(a.Ins, x.Act)
+	})
+	return a
+}
+
 // drawnIa is IaOk; few steps leave states that are not reached.
 func drawnIa(d *draws, states int, count int) impl.Ia {
 	a := impl.Ia{States: states, Init: d.below(states)}
@@ -630,11 +639,7 @@ func drawnIa(d *draws, states int, count int) impl.Ia {
 			a.Steps = append(a.Steps, impl.Step{From: d.below(states), Act: acts[d.below(len(acts))], To: d.below(states)})
 		}
 	}
-	slices.SortFunc(a.Steps, func(x, y impl.Step) int { return slices.Compare(numbersOf(x), numbersOf(y)) })
-	a.Steps = slices.CompactFunc(a.Steps, func(x, y impl.Step) bool {
-		return x == y || x.From == y.From && x.Act == y.Act && occurs(a.Ins, x.Act)
-	})
-	return a
+	return righted(a)
 }
 
 func TestDrawnAutomata(t *testing.T) {

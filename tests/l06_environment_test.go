@@ -564,7 +564,8 @@ func TestEnvStepsAtTheLimit(t *testing.T) {
 	}
 }
 
-func TestNoViewOfWrongAutomata(t *testing.T) {
+// wrongAutomata has those that are not IaOk, whisperers with one fault among them.
+func wrongAutomata() map[string]impl.Ia {
 	all := badAutomata()
 	for name, change := range map[string]func(a *impl.Ia){
 		"41 states":         func(a *impl.Ia) { a.States = 41 },
@@ -576,7 +577,11 @@ func TestNoViewOfWrongAutomata(t *testing.T) {
 	} {
 		all["whisperer: "+name] = changed(whisperer(), change)
 	}
-	for name, a := range all {
+	return all
+}
+
+func TestNoViewOfWrongAutomata(t *testing.T) {
+	for name, a := range wrongAutomata() {
 		if wantedOk(a) {
 			t.Fatalf("%s: %+v is IaOk", name, a)
 		}
